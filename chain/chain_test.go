@@ -300,6 +300,14 @@ func TestFull(t *testing.T) { // P1102
 	if e := Apply(s, message.Input{}); e != api.ErrArg {
 		t.Error(e)
 	}
+	s.Put(api.Hash{}, api.Hash{})
+	if e := Apply(s, tx(message.Transfer, 1, 0, 1, 0)); e != api.ErrSize || s.Len() != 4093 {
+		t.Error(e, s.Len())
+	}
+	s.Put(api.Hash{1}, api.Hash{})
+	if e := Apply(s, tx(message.Transfer, 1, 0, 1, 0)); e != 0 || s.Len() != 4092 {
+		t.Error(e, s.Len())
+	}
 }
 
 func TestAnyInputs(t *testing.T) { // P1103, P1104, P1105

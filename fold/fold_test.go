@@ -30,7 +30,10 @@ func blocks(r *rand.Rand, n int) []inbox.Block {
 			b := message.Batch{Epoch: uint64(max(0, h-r.Intn(3)))}
 			for range r.Intn(4) {
 				from := uint64(1 + r.Intn(2))
-				b.Txs = append(b.Txs, message.Tx{Kind: 1 + r.Intn(2), From: from, Nonce: nonce[from], To: uint64(r.Intn(5)), Value: wide.Of(uint64(r.Intn(20)))})
+				b.Txs = append(b.Txs, message.Tx{Kind: message.Transfer, From: from, Nonce: nonce[from], To: uint64(r.Intn(5)), Value: wide.Of(uint64(r.Intn(20)))})
+				if x := &b.Txs[len(b.Txs)-1]; r.Intn(2) == 0 {
+					x.Kind, x.Data = message.Withdraw, []byte{3}
+				}
 				nonce[from] += uint64(r.Intn(2))
 			}
 			raw, _ := message.PutBatch(b)
@@ -174,6 +177,9 @@ func TestNew(t *testing.T) { // P1502
 	if m, e := New(1, chain.Row{Who: 0}); m != nil || e != api.ErrArg {
 		t.Error(e)
 	}
+	if m, e := New(64); m == nil || e != 0 {
+		t.Error(e)
+	}
 	m, _ := New(1)
 	if n, e := m.Feed(make([]inbox.Block, 2)); n != 1 || e != 0 {
 		t.Error(n, e)
@@ -229,17 +235,26 @@ func TestApart(t *testing.T) { // P1501
 	steps, _ := m.Steps(0, 7)
 	for i := range steps {
 		clear(steps[i].Message.Data)
+		clear(steps[i].Tx.Data)
 	}
 	tr, _ := m.Trace(0, 7)
 	clear(tr)
+	fresh, _ := New(2, rows...)
+	fresh.Feed(blocks(rand.New(rand.NewSource(5)), 9))
 	for n := range 8 {
-		clear(m.Receipts(n))
+		l := m.Receipts(n)
+		for i := range l {
+			l[i] = 77
+		}
+		if !slices.Equal(m.Receipts(n), fresh.Receipts(n)) {
+			t.Error("shared", n)
+		}
 	}
 	if again, _ := m.Trace(0, 7); again[len(again)-1] != root || root == (api.Hash{}) {
 		t.Error("shared")
 	}
 	for _, x := range must(m.Steps(0, 7)) {
-		if x.Deposit && x.Message.Data[0] != 1 {
+		if x.Deposit && x.Message.Data[0] != 1 || x.Tx.Kind == message.Withdraw && x.Tx.Data[0] != 3 {
 			t.Error("shared")
 		}
 	}

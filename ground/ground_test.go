@@ -316,6 +316,34 @@ func TestDisputeOfNoSteps(t *testing.T) { // P2003
 	do(t, g, Tx{Kind: Prove, From: 3, N: 0}, api.ErrTurn) // done, but there is no such step
 }
 
+func TestDisputeOfOneStep(t *testing.T) { // P2003
+	g := begin(t, 500)
+	do(t, g, Tx{Kind: Deposit, From: 1, To: 7, Value: wide.Of(20)}, 0)
+	closed(t, g, 2)
+	m, _ := fold.New(1)
+	m.Feed(g.Blocks())
+	do(t, g, Tx{Kind: Propose, From: 2, N: 1, Root: api.Hash{9}}, 0)
+	do(t, g, Tx{Kind: Challenge, From: 3, N: 0}, 0)
+	do(t, g, Tx{Kind: Prove, From: 3, N: 0}, api.ErrForm)
+	s, _ := m.State(0)
+	w, _ := witness.Make(s, g.Steps(0, 1)[0])
+	do(t, g, Tx{Kind: Prove, From: 3, N: 0, Witness: w}, 0)
+	if p, _ := g.Oracle().Proposal(0); p.Status != oracle.Refuted {
+		t.Error(p)
+	}
+}
+
+func TestConstants(t *testing.T) { // P2001
+	for i, kind := range []int{Pay, Deposit, Batch, Propose, Challenge, Post, Choose, Prove, Timeout, Finalise, Relay, Replay} {
+		if kind != i+1 {
+			t.Error(i, kind)
+		}
+	}
+	if Bonds != 1099511627776 || Fees != 1099511627777 {
+		t.Error("accounts")
+	}
+}
+
 func TestTimeout(t *testing.T) { // P2003
 	g, _ := started(t)
 	do(t, g, Tx{Kind: Propose, From: 2, N: 1, Root: api.Hash{9}}, 0)

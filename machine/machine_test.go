@@ -375,6 +375,27 @@ func TestOneRefuses(t *testing.T) { // P804
 	}
 }
 
+func TestFullStack(t *testing.T) { // P804, P805
+	l := []Instr{{Pop, 0}}
+	s := State{Gas: 9, Stack: make([]uint64, 32)}
+	w, _ := Prove(l, Context{}, s)
+	if before, after, e := One(Root(l), Context{}, w); e != 0 || before != Hash(s) || after != Hash(Step(l, Context{}, s)) {
+		t.Error(e)
+	}
+}
+
+func TestConstants(t *testing.T) { // P801
+	ops := []int{Stop, Push, Pop, Dup, Swap, Add, Sub, Mul, Div, Mod, Less, Same, Jump, Branch, Load, Store, Input, Value, Caller, Abort}
+	for i, op := range ops {
+		if op != i {
+			t.Error(i, op)
+		}
+	}
+	if Running != 0 || Stopped != 1 || Failed != 2 || len(ops) != 20 {
+		t.Error("status")
+	}
+}
+
 func TestExample(t *testing.T) {
 	if s := run(t, Context{}, Instr{Push, 2}, Instr{Push, 3}, Instr{Sub, 0}, Instr{}); !slices.Equal(s.Stack, []uint64{1<<64 - 1}) || s.Status != Stopped {
 		t.Error(s)

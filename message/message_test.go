@@ -58,6 +58,9 @@ func TestMessages(t *testing.T) { // P902, P903
 			t.Error("hash", i)
 		}
 	}
+	if Transfer != 1 || Withdraw != 2 || Replay != 3 {
+		t.Error("kinds")
+	}
 	if b, _ := PutMessage(Message{}); len(b) != 72 {
 		t.Error(len(b))
 	}

@@ -114,6 +114,14 @@ func TestNew(t *testing.T) { // P1802
 			t.Error(c, e)
 		}
 	}
+	if Open != 0 || Done != 1 || Refuted != 2 || Stale != 3 {
+		t.Error("status")
+	}
+	if o, e := New(api.Hash{}, 1, 1); o == nil || e != 0 {
+		t.Error(e)
+	} else if n, e := o.Propose(0, 1, 1, api.Hash{}); n != 0 || e != 0 {
+		t.Error("at the time 0", e)
+	}
 	o, e := New(api.Hash{7}, 1<<20, 1<<20)
 	if n, r := o.Final(); e != 0 || n != 0 || r != (api.Hash{7}) || o.Bonds() != 0 || len(o.Pays()) != 0 {
 		t.Error(n, r, e)
@@ -364,6 +372,11 @@ func TestApart(t *testing.T) { // P1805
 	o.Challenge(1, challenger, 0, 1)
 	o.Challenge(1, challenger, 0, 1)
 	o.Timeout(9, 0)
+	later := o.Clone()
+	later.Challenge(2, other, 0, 0)
+	if status(later, 0) != Refuted || status(o, 0) != Open || o.Bonds() != 2 {
+		t.Error("shared")
+	}
 	k := o.Clone()
 	if !reflect.DeepEqual(k, o) {
 		t.Error("another one")

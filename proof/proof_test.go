@@ -196,6 +196,19 @@ func TestBytesLimits(t *testing.T) { // P603
 	if x, e := Get(long); x != nil || e != api.ErrForm {
 		t.Error("more bytes than Put tells", e)
 	}
+	most := make([]Step, 63) // with 1843 sides they have just MaxBytes
+	for i := range 7 {
+		most[i] = full
+	}
+	for i := range most[8].Proof.Mask[:6] {
+		most[8].Proof.Mask[i] = 255
+	}
+	most[8].Proof.Mask[6] = 7
+	most[8].Proof.Sides = full.Proof.Sides[:51]
+	b, e = Put(most...)
+	if x, e2 := Get(b); e != 0 || len(b) != api.MaxBytes || e2 != 0 || len(x) != 63 {
+		t.Error("as many bytes as there may be", e, len(b), e2)
+	}
 	some := binary.BigEndian.AppendUint64(nil, 65)
 	if x, e := Get(append(some, make([]byte, 65*104)...)); x != nil || e != api.ErrForm {
 		t.Error("more steps than Put takes", e)

@@ -145,6 +145,9 @@ func TestExamples(t *testing.T) { // the document's ten examples
 		"new 1 3 3 10 99 / post 1 0 0":                                                                   "3",
 		"new 1 3 3 10 99 / choose 1 0 1":                                                                 "3",
 		"new 1 3 3 10 99 / challenge 1 0":                                                                "3",
+		// Of three steps the first half has one, so that nothing is left to post, and the second one has two.
+		"new 1 3 3 10 99 / deposit 1 7 5 0 0 / deposit 1 7 5 0 0 / deposit 1 7 5 0 0 / run 2 / propose 1 1 7 / challenge 2 0 / post 1 0 9 / choose 2 0 0 / post 1 0 9": "52",
+		"new 1 3 3 10 99 / deposit 1 7 5 0 0 / deposit 1 7 5 0 0 / deposit 1 7 5 0 0 / run 2 / propose 1 1 7 / challenge 2 0 / post 1 0 9 / choose 2 0 5 / post 1 0 9": "0",
 	} {
 		if got := last(t, story); got != want {
 			t.Error(story, "says", got, "not", want)

@@ -238,6 +238,7 @@ func TestBytesLimits(t *testing.T) { // P1204
 	}{
 		{Witness{Items: make([]Item, 4), Slots: make([]api.Hash, 1), Steps: make([]proof.Step, 64)}, 0},
 		{Witness{Items: make([]Item, 5), Steps: []proof.Step{bad}}, api.ErrForm},
+		{Witness{Items: make([]Item, 5)}, api.ErrForm},
 		{Witness{Slots: make([]api.Hash, 2)}, api.ErrForm},
 		{Witness{Steps: []proof.Step{bad}}, api.ErrForm},
 		{Witness{Steps: make([]proof.Step, 65)}, api.ErrSize},
@@ -257,10 +258,23 @@ func TestBytesLimits(t *testing.T) { // P1204
 	eight := proof.Step{Proof: smt.Proof{Mask: api.Hash{31: 255}, Sides: full.Proof.Sides[:8]}}
 	w := Witness{Items: make([]Item, 4), Steps: append(most[:7:7], make([]proof.Step, 57)...)}
 	w.Steps[10], w.Steps[20], w.Steps[30] = eight, eight, eight
-	if b, e := Put(w); e != 0 || len(b) != api.MaxBytes {
-		t.Error(e, len(b))
+	b, e := Put(w)
+	if v, e2 := Get(b); e != 0 || len(b) != api.MaxBytes || e2 != 0 || len(v.Steps) != 64 {
+		t.Error(e, len(b), e2)
 	}
 	w.Steps[40] = eight
+	steps, _ := proof.Put(w.Steps...)
+	head := b[:8+4*184+8]
+	if v, e := Get(append(binary.BigEndian.AppendUint64(head[:len(head):len(head)], uint64(len(steps))), steps...)); e != api.ErrForm || v.Items != nil {
+		t.Error("more bytes than Put tells", e)
+	}
+	five := append(make([]byte, 7), 5)
+	for range 5 {
+		five = append(five, b[8:8+184]...)
+	}
+	if _, e := Get(append(five, b[8+4*184:8+4*184+8]...)); e != api.ErrForm {
+		t.Error("five items", e)
+	}
 	if _, e := proof.Put(w.Steps...); e != 0 {
 		t.Error(e)
 	}

@@ -280,6 +280,36 @@ func TestStaleProposals(t *testing.T) { // P2102
 	next(t, w, Proposer, ground.Tx{Kind: ground.Propose, N: 4, Root: root})
 }
 
+func TestStaleByNumberAlone(t *testing.T) { // P2102
+	w := begin(t, plain, 99)
+	closed(t, w)
+	closed(t, w)
+	submit(t, w, ground.Tx{Kind: ground.Propose, From: 2, N: 1}, 0)
+	closed(t, w)
+	w.Act(Proposer) // on 0, like the other one's; all roots are the same
+	closed(t, w)
+	closed(t, w)
+	submit(t, w, ground.Tx{Kind: ground.Finalise, From: 2, N: 0}, 0)
+	next(t, w, Proposer, ground.Tx{Kind: ground.Propose, N: 4})
+	submit(t, w, ground.Tx{Kind: ground.Challenge, From: 3, N: 1}, 0)
+	closed(t, w)
+	next(t, w, Proposer, ground.Tx{Kind: ground.Finalise, N: 1})
+	idle(t, w, Proposer)
+}
+
+func TestFarAhead(t *testing.T) { // P2102
+	w := begin(t, plain, 99)
+	for range 129 {
+		closed(t, w)
+	}
+	next(t, w, Proposer, ground.Tx{Kind: ground.Propose, N: 128})
+	w = begin(t, plain, 99)
+	for range 140 {
+		closed(t, w)
+	}
+	next(t, w, Proposer, ground.Tx{Kind: ground.Propose, N: 128})
+}
+
 // disputed is a world with a false proposal of 2 of number 1, that has three steps.
 func disputed(t *testing.T, by uint64) *World {
 	t.Helper()
