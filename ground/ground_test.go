@@ -501,7 +501,7 @@ func TestNobodys(t *testing.T) { // P2001
 	for _, g := range []*Ground{nil, {}} {
 		n, e := g.Close()
 		v, e2 := g.Total()
-		if g.Do(Tx{Kind: Pay, From: 1, Proof: smt.Proof{}}) != api.ErrArg || n != 0 || e != api.ErrArg || g.Height() != 0 || g.Now() != 0 || g.Known() != 0 || g.Blocks() != nil || g.Steps(0, 9) != nil || g.Account(1) != (state.Account{}) || g.Root() != (api.Hash{}) || v != (api.Wide{}) || e2 != api.ErrArg || g.Oracle() != nil || g.Portal() != nil {
+		if g.Do(Tx{Kind: Pay, From: 1, Proof: smt.Proof{}}) != api.ErrArg || n != 0 || e != api.ErrArg || g.Height() != 0 || g.Now() != 0 || g.Known() != 0 || len(g.Blocks()) != 0 || g.Steps(0, 9) != nil || g.Account(1) != (state.Account{}) || g.Root() != (api.Hash{}) || v != (api.Wide{}) || e2 != api.ErrArg || g.Oracle() != nil || g.Portal() != nil {
 			t.Error("a call")
 		}
 	}

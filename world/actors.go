@@ -84,9 +84,9 @@ type view struct {
 
 func (w *World) look() view {
 	o := w.ground.Oracle()
-	v := view{world: w, now: w.ground.Now()}
-	v.final, v.root = o.Final()
 	proposals, disputes := o.Counts()
+	v := view{world: w, now: w.ground.Now(), proposals: make([]seen, 0, proposals), disputes: make([]oracle.Dispute, 0, disputes)}
+	v.final, v.root = o.Final()
 	for n := range proposals {
 		p, _ := o.Proposal(n)
 		v.proposals = append(v.proposals, seen{Proposal: p, place: n})

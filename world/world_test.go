@@ -473,6 +473,66 @@ func TestRun(t *testing.T) { // P2102, P2107
 	}
 }
 
+func TestActsOfARun(t *testing.T) { // P2102
+	w := begin(t, plain, 999)
+	submit(t, w, deposit(1, 7, 50, 0), 0)
+	run(t, w, 1)
+	for n, to := range []uint64{101, 8, 0, 9} {
+		w.Queue(withdraw(7, uint64(n), to, 2))
+	}
+	for final := 0; final == 0; {
+		run(t, w, 1)
+		final, _ = w.Final()
+	}
+	// All in the block that made their number final: the Proposer's next proposal, and relays behind others' errors.
+	if n, _ := w.Oracle().Counts(); n != 2 || w.Account(Proposer).Nonce != 3 {
+		t.Error("the Proposer", n)
+	}
+	for i, m := range w.Sent(1) {
+		if w.Up(m) != []int{chain.Held, chain.Relayed, chain.Held, chain.Relayed}[i] {
+			t.Error("the Relayer", i)
+		}
+	}
+	nonce := w.Account(Batcher).Nonce
+	for range 8 {
+		submit(t, w, ground.Tx{Kind: ground.Batch, From: 1}, 0)
+	}
+	run(t, w, 1)
+	if w.Account(Batcher).Nonce != nonce+1 {
+		t.Error("the Batcher goes on behind an error")
+	}
+}
+
+func TestManyActs(t *testing.T) { // P2102
+	w := begin(t, ground.Config{Window: 1, Wait: 36, Clock: 3, Bond: 10}, 999)
+	submit(t, w, deposit(1, 7, 400, 0), 0)
+	run(t, w, 2)
+	for n := range uint64(256) {
+		w.Queue(withdraw(7, n, 8, 1))
+		if n%8 == 7 {
+			run(t, w, 1)
+		}
+	}
+	// The first final number is 1, the second one is all of these.
+	for final := 0; final < 2; {
+		run(t, w, 1)
+		final, _ = w.Final()
+	}
+	if _, relayed := w.ground.Portal().Counts(); relayed != 200 {
+		t.Error("in one block", relayed)
+	}
+	run(t, w, 1)
+	if _, relayed := w.ground.Portal().Counts(); relayed != 256 || w.Account(Relayer).Nonce != 256 {
+		t.Error("in two blocks", relayed)
+	}
+}
+
+func TestConstants(t *testing.T) { // P2101
+	if Batcher != 11 || Proposer != 12 || Challenger != 13 || Relayer != 14 {
+		t.Error("actors")
+	}
+}
+
 func TestRunsEnd(t *testing.T) { // P2102
 	w := begin(t, plain, 1<<40)
 	for range 4 {
