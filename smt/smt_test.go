@@ -98,6 +98,39 @@ func sorted(kept map[api.Hash]api.Hash) []Pair {
 	return l
 }
 
+// emptied answers a map of which the node at that depth on a key's way is kept as zero, as nobody knows strings whose digest is.
+func emptied(l []Pair, key api.Hash, level int) *Map {
+	m, _ := New(l...)
+	n := m.top
+	for n.fork < level {
+		n = n.below[bit(key, n.fork)]
+	}
+	n.own, n.told = api.Hash{}, true
+	return m
+}
+
+func TestZeroSide(t *testing.T) { // P502
+	a, b, c := api.Hash{}, api.Hash{0: 128}, api.Hash{0: 144}
+	l := []Pair{{a, api.Hash{1}}, {b, api.Hash{2}}, {c, api.Hash{3}}}
+	sideA, sideB := plain(l[:1], 1), plain(l[1:2], 4)
+	for i, x := range []struct {
+		level int // of the node that is zero, on the way to c
+		key   api.Hash
+		want  Proof
+	}{
+		{256, b, Proof{api.Hash{128}, []api.Hash{sideA}}},
+		{256, c, Proof{api.Hash{128 + 16}, []api.Hash{sideA, sideB}}},
+		{256, api.Hash{0: 144, 31: 1}, Proof{api.Hash{128 + 16}, []api.Hash{sideA, sideB}}},
+		{3, a, Proof{}},
+		{3, api.Hash{0: 192}, Proof{api.Hash{128}, []api.Hash{sideA}}},
+		{3, b, Proof{api.Hash{128 + 16}, []api.Hash{sideA, plain(l[2:], 4)}}},
+	} {
+		if p := emptied(l, c, x.level).Prove(x.key); !same(p, x.want) {
+			t.Error(i, p)
+		}
+	}
+}
+
 func TestNew(t *testing.T) { // P502
 	k, v := api.Hash{1}, api.Hash{2}
 	if m, e := New(); e != 0 || m.Root() != (api.Hash{}) || len(m.Pairs()) != 0 {
